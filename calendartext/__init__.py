@@ -1,0 +1,1 @@
+"""A calendar's text: read, changed and told again."""
