@@ -3,12 +3,11 @@
 from calendartext.dates import MOST_DATES, MOST_NUMBER, MOST_OTHERS, MOST_RINGS, MOST_TAGS, Date
 from calendartext.lines import is_other_name
 from calendartext.reading import read
+from calendartext.refusals import FULL, WRONG
 from calendartext.rows import NEWLINE
 from calendartext.times import day_number, is_day, is_minute
 from calendartext.words import is_name, is_tag
 
-WRONG = -1
-FULL = -5
 MOST_VALUE_BYTES = 60
 
 
@@ -31,6 +30,19 @@ def add_date(calendar, year, month, day, minute):
     date.minute = minute
     calendar.dates.append(date)
     return len(calendar.dates) - 1
+
+
+def drop_date(calendar, which):
+    calendar.dates.pop(which)
+    return len(calendar.dates)
+
+
+def set_title(calendar, given):
+    if not is_name(given):
+        return WRONG
+    had = len(calendar.title)
+    calendar.title = list(given)
+    return had
 
 
 def set_name(date, given):

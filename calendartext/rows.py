@@ -13,6 +13,10 @@ def row_of(text):
     return [ord(sign) for sign in text]
 
 
+def counted(row):
+    return [len(row)] + row
+
+
 def split_row(row, mark):
     """Answer the pieces between the marks, one more than there are marks."""
     pieces = []

@@ -48,6 +48,34 @@ def other(which, known_as, value):
     return [7, which] + counted(known_as) + counted(value)
 
 
+def drop(which):
+    return [8, which]
+
+
+def date(which):
+    return [9, which]
+
+
+def find(given):
+    return [10] + counted(given)
+
+
+def same(text):
+    return [11] + counted(text)
+
+
+def cut(given):
+    return [12] + counted(given)
+
+
+def join(given):
+    return [13] + counted(given)
+
+
+def title(given):
+    return [14] + counted(given)
+
+
 def ask(*calls):
     """Answer one list for each call."""
     laid = answers(sum(calls, []))
@@ -68,11 +96,16 @@ def last(*calls):
     return ask(*calls)[-1]
 
 
-def text_after(*calls):
-    answer = last(*calls, told())
+def answered_bytes(*calls):
+    """The bytes that the last call answers behind their count, as a text."""
+    answer = last(*calls)
     if answer[0] != len(answer) - 1:
-        raise AssertionError(f"told counts {answer[0]}, but has {len(answer) - 1} bytes")
+        raise AssertionError(f"{answer[0]} bytes are counted, but there are {len(answer) - 1}")
     return bytes(answer[1:]).decode("latin-1")
+
+
+def text_after(*calls):
+    return answered_bytes(*calls, told())
 
 
 def joined(text):
@@ -100,4 +133,9 @@ class CalendarCase(unittest.TestCase):
     def check_refused(self, before, call, refusal):
         """The last call is refused with that number alone, and nothing changes."""
         self.assertEqual(last(*before, call), [refusal])
+        self.check_nothing_changes(before, call)
+
+    def check_nothing_changes(self, before, call):
         self.assertEqual(text_after(*before, call), text_after(*before))
+        each_date = [date(which) for which in range(7)]
+        self.assertEqual(ask(*before, call, *each_date)[-7:], ask(*before, *each_date)[-7:])

@@ -5,7 +5,8 @@ import random
 import re
 import unittest
 
-from tests.helper import add, ask, load, long, name, other, ring, row, tag, told
+from calendartext.calendars import answers
+from tests.helper import (add, ask, cut, date, drop, find, join, load, long, name, other, ring, row, same, tag, title, told)
 
 FIRST_DAY = datetime.date(2000, 1, 1)
 NAME = re.compile(rb"(?:[^\x00-\x1f\x7f\\,;]|\\[n\\,;])+", re.DOTALL)
@@ -40,6 +41,10 @@ def moment(value):
 def number(value, pattern):
     need(re.fullmatch(pattern, value), 3)
     return int(value)
+
+
+def in_pieces(line):
+    return line[:1] + re.sub(rb"(?s)(.{23})(?=.)", rb"\1\n ", line[1:])
 
 
 class Model:
@@ -119,7 +124,7 @@ class Model:
             yield b"end:date"
 
     def told(self):
-        return b"".join(line[:1] + re.sub(rb"(?s)(.{23})(?=.)", rb"\1\n ", line[1:]) + b"\n" for line in self.lines())
+        return b"".join(in_pieces(line) + b"\n" for line in self.lines())
 
     def add(self, year, month, day, minute):
         try:
@@ -175,28 +180,85 @@ class Model:
         return len(date["others"])
 
 
+WITH_A_DATE = ("name", "long", "ring", "tag", "other", "drop", "date")
+
+
+def with_count(numbers):
+    return [len(numbers)] + list(numbers)
+
+
+class Run:
+    """One list of calls, given one by one as a word and what is handed over."""
+
+    def __init__(self):
+        self.model = Model()
+
+    def answer(self, word, *given):
+        if word in WITH_A_DATE:
+            if given[0] >= len(self.model.dates):
+                return [-3]
+            if word not in ("drop", "date"):
+                return [getattr(self.model, word)(self.model.dates[given[0]], *given[1:])]
+        answered = getattr(self, word)(*given)
+        return answered if isinstance(answered, list) else [answered]
+
+    def load(self, text):
+        fresh = Model()
+        answered = fresh.read(text)
+        self.model = fresh if answered >= 0 else self.model
+        return answered
+
+    def same(self, text):
+        fresh = Model()
+        answered = fresh.read(text)
+        # Told, each calendar has one text alone.
+        return int(list(fresh.lines()) == list(self.model.lines())) if answered >= 0 else answered
+
+    def told(self):
+        return with_count(self.model.told())
+
+    def add(self, *given):
+        return self.model.add(*given)
+
+    def drop(self, which):
+        self.model.dates = [one for place, one in enumerate(self.model.dates) if place != which]
+        return len(self.model.dates)
+
+    def date(self, which):
+        one = self.model.dates[which]
+        at = one[b"at"]
+        flat = [(at.date() - FIRST_DAY).days, at.hour * 60 + at.minute, one.get(b"long", 0)]
+        flat += with_count(one.get(b"name", b"")) + with_count(sorted(one["rings"]))
+        flat += sum(map(with_count, one["tags"]), [len(one["tags"])])
+        return flat + sum((with_count(part) for pair in one["others"] for part in pair), [len(one["others"])])
+
+    def find(self, given):
+        return with_count([place for place, one in enumerate(self.model.dates) if given in one["tags"]])
+
+    def cut(self, given):
+        return -1 if b"\n" in given else with_count(in_pieces(given))
+
+    def join(self, given):
+        return with_count(given.replace(b"\n ", b""))
+
+    def title(self, given):
+        whole = {b"name": self.model.title}
+        answered = self.model.name(whole, given)
+        self.model.title = whole[b"name"]
+        return answered
+
+
 def expected(calls):
-    """What the model answers to calls that are given as tuples of a word and what is handed over."""
-    model = Model()
-    answered = []
-    for word, *given in calls:
-        if word == "load":
-            fresh = Model()
-            answered.append([fresh.read(given[0])])
-            model = fresh if answered[-1][0] >= 0 else model
-        elif word == "told":
-            text = model.told()
-            answered.append([len(text)] + list(text))
-        elif word == "add":
-            answered.append([model.add(*given)])
-        elif given[0] >= len(model.dates):
-            answered.append([-3])
-        else:
-            answered.append([getattr(model, word)(model.dates[given[0]], *given[1:])])
-    return answered
+    run = Run()
+    return [run.answer(*call) for call in calls]
 
 
-LAID = {"load": load, "told": told, "add": add, "name": name, "long": long, "ring": ring, "tag": tag, "other": other}
+LAID = {"load": load, "told": told, "add": add, "name": name, "long": long, "ring": ring, "tag": tag, "other": other,
+        "drop": drop, "date": date, "find": find, "same": same, "cut": cut, "join": join, "title": title}
+
+
+def laid(calls):
+    return [LAID[word](*[row(part) if isinstance(part, bytes) else part for part in given]) for word, *given in calls]
 
 
 class MadeUp:
@@ -204,6 +266,8 @@ class MadeUp:
 
     def __init__(self, seed):
         self.random = random.Random(seed)
+        # Each list has one call that comes often, so that dates come to be full of what it adds.
+        self.favourite = self.random.choice(("add", "ring", "tag", "other", "same", "load", "drop"))
 
     def some_bytes(self, most):
         signs = self.random.choice((b"ab", b"a,;\\n \n", b"xyz-:", bytes(range(32, 127)), bytes(range(256))))
@@ -253,36 +317,79 @@ class MadeUp:
             text = text[:place] + pick((b"\n ", b"\n ", b"\n \n ", b"\n\n  ", b"\n")) + text[place:]
         return text[:pick((700, 700, 700, self.random.randint(0, 700)))][:700]
 
-    def call(self):
+    def text_like(self, model):
+        """The model's own text, often cut otherwise or with its lines in another order, now and then changed."""
         pick = self.random.choice
-        which = pick((0, 0, 0, 1, 1, 2, 5, 6, 20))
-        return pick((
-            ("load", self.text()), ("told",), ("told",),
-            ("add", pick((1999, 2000, 2026, 2024, 2099, 2100)), pick((0, 1, 2, 12, 13)), pick((0, 1, 28, 29, 30, 31, 32)),
-             pick((0, 570, 1439, 1440))),
-            ("add", 2026, 11, 16, 570), ("name", which, self.some_bytes(41)), ("long", which, pick((0, 1, 9999, 10000))),
-            ("ring", which, pick((0, 1, 2, 3, 9999, 10000))), ("ring", which, pick((0, 1, 2, 3))),
-            ("tag", which, pick((b"a", b"b", b"c", b"d", b"e", b"f", b"", b"abcdefgh", b"abcdefghi", b"A"))),
-            ("tag", which, pick((b"a", b"b", b"c", b"d", b"e", b"f"))),
-            ("other", which, pick((b"x-a", b"x-", b"x-" + b"b" * 14, b"x-" + b"b" * 15, b"y-a")), self.some_bytes(61)),
-        ))
+        lines = list(model.lines())
+        for _ in range(pick((0, 1, 3))):
+            place = self.random.randint(0, max(0, len(lines) - 2))
+            if all(line.split(b":")[0] not in (b"begin", b"end", b"title") for line in lines[place:place + 2]):
+                lines[place:place + 2] = reversed(lines[place:place + 2])
+        if pick((True, False, False, False)):
+            lines.insert(self.random.randint(0, len(lines)), pick((self.line(), self.likely_line())))
+        if lines and pick((True, False, False, False, False)):
+            lines.pop(self.random.randrange(len(lines)))
+        text = b"".join(line + b"\n" for line in lines) if pick((True, False)) else model.told()
+        for _ in range(pick((0, 0, 1, 3))):
+            place = self.random.randint(0, len(text))
+            text = text[:place] + b"\n " + text[place:]
+        return text[:700]
+
+    def call(self, model):
+        pick = self.random.choice
+        which = pick((0, 0, 0, 0, 0, len(model.dates) // 2, len(model.dates) - 1, len(model.dates), 6, 20)) % 21
+        word = pick(("told", "add", "add", "add", "name", "long", "ring", "ring", "tag", "tag", "tag", "other", "other",
+                     "date", "find", "same", "same", "cut", "join", "title", pick(("load", "drop", "add", "tag")))
+                    + (self.favourite,) * 8)
+        if word in ("load", "same"):
+            return word, self.text_like(model) if pick((True, True, False)) else self.text()
+        given = {
+            "told": (),
+            "add": pick(((2026, 11, 16, 570), (2000, 2, 29, 0), (2000, 1, 1, 1439), (
+                pick((1999, 2000, 2026, 2024, 2099, 2100)), pick((0, 1, 2, 12, 13)), pick((0, 1, 28, 29, 30, 31, 32)),
+                pick((0, 570, 1439, 1440))))),
+            "name": (which, self.some_bytes(41)),
+            "long": (which, pick((0, 1, 9999, 10000))),
+            "ring": (which, pick((0, 1, 2, 3, 4, 5, 6, 7, 9999, 10000))),
+            "tag": (which, pick((b"a", b"b", b"c", b"d", b"e", b"f", b"g", b"h", b"i", b"j", b"aa", b"ab", b"abcdefgh",
+                                 b"", b"abcdefghi", b"A"))),
+            "other": (which, pick((b"x-a", b"x-bc", b"x-", b"x-" + b"b" * 14, b"x-" + b"b" * 15, b"y-a")),
+                      pick((b"", b"1", self.some_bytes(61)))),
+            "drop": (which,),
+            "date": (which,),
+            "find": (pick((b"a", b"b", b"c", b"", b"A", b"abcdefgh")),),
+            "cut": (self.some_bytes(pick((24, 25, 47, 48, 70, 71, 700))),),
+            "join": (pick((self.some_bytes(700), bytes(self.random.choices(b"\n\n  a", k=self.random.randint(0, 40))))),),
+            "title": (self.some_bytes(41),),
+        }
+        return (word,) + given[word]
+
+    def calls(self, many):
+        run = Run()
+        made = []
+        for _ in range(many):
+            made.append(self.call(run.model))
+            run.answer(*made[-1])
+        return made
 
 
 class AgainstModel(unittest.TestCase):
     def check(self, calls):
-        laid = [LAID[word](*[row(part) if isinstance(part, bytes) else part for part in given]) for word, *given in calls]
-        self.assertEqual(ask(*laid), expected(calls), calls)
+        self.assertEqual(ask(*laid(calls)), expected(calls), calls)
 
     def test_calls(self):
         for seed in range(600):
-            made_up = MadeUp(seed)
-            self.check([made_up.call() for _ in range(60)])
+            self.check(MadeUp(seed).calls(60))
+
+    def test_a_few_calls(self):
+        for seed in range(600):
+            self.check(MadeUp(seed).calls(1 + seed % 12))
 
     def test_texts(self):
         for seed in range(1500):
             made_up = MadeUp(seed)
-            calls = [("load", made_up.text()), ("told",), ("load", made_up.text()), ("told",)]
-            self.check(calls)
+            text, another = made_up.text(), made_up.text()
+            self.check([("load", text), ("told",), ("same", another), ("load", another), ("told",), ("same", text)])
 
     def test_made_up_texts_have_each_answer(self):
         seen = {}
@@ -293,16 +400,43 @@ class AgainstModel(unittest.TestCase):
         for kind in (-6, -5, -4, -3, -2, -1, 0, 1, 2, 3):
             self.assertGreater(seen.get(kind, 0), 10, (kind, seen))
 
+    def test_made_up_calls_have_each_answer(self):
+        seen = {}
+        for seed in range(600):
+            calls = MadeUp(seed).calls(60)
+            for call, answered in zip(calls, expected(calls)):
+                kind = min(max(answered[0], -100), 1)
+                seen[call[0], kind] = seen.get((call[0], kind), 0) + 1
+        for word, refusals in (("load", (-100,)), ("told", ()), ("add", (-1, -5)), ("name", (-3, -1)), ("long", (-3, -1)),
+                               ("ring", (-3, -1, -5)), ("tag", (-3, -1, -5)), ("other", (-3, -1, -5)), ("drop", (-3,)),
+                               ("date", (-3,)), ("find", ()), ("same", (-100,)), ("cut", (-1,)), ("join", ()),
+                               ("title", (-1,))):
+            for kind in refusals + (0, 1):
+                if (word, kind) != ("other", 0):
+                    self.assertGreater(seen.get((word, kind), 0), 10, (word, kind))
+
+    def test_what_is_handed_in_stays_and_a_second_time_answers_as_the_first(self):
+        for seed in range(100):
+            calls = sum(laid(MadeUp(seed).calls(60)), [])
+            before = list(calls)
+            first = answers(calls)
+            self.assertEqual(calls, before)
+            self.assertEqual(answers(calls), first)
+
+    def test_a_refusal_changes_nothing(self):
+        for seed in range(100):
+            calls = MadeUp(seed).calls(60)
+            parts = ask(*laid(calls))
+            kept = [(call, part) for call, part in zip(calls, parts) if part[0] >= 0]
+            self.assertEqual(ask(*laid([call for call, part in kept])), [part for call, part in kept])
+
     def test_what_is_told_is_read_again(self):
         for seed in range(600):
-            made_up = MadeUp(seed)
-            laid = []
-            for _ in range(40):
-                word, *given = made_up.call()
-                laid.append(LAID[word](*[row(part) if isinstance(part, bytes) else part for part in given]))
-            text = ask(*laid, told())[-1][1:]
+            calls = laid(MadeUp(seed).calls(40))
+            text = ask(*calls, told())[-1][1:]
             if len(text) <= 700:
                 self.assertEqual(ask(load(text), told())[1][1:], text)
+                self.assertEqual(ask(*calls, same(text))[-1], [1])
 
 
 if __name__ == "__main__":

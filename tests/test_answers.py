@@ -3,11 +3,21 @@
 import unittest
 
 from calendartext.calendars import answers
-from tests.helper import FULL_TEXT, add, ask, load, long, name, other, ring, row, tag, text_after, told
+from tests.helper import (FULL_TEXT, CalendarCase, add, ask, cut, date, drop, find, join, last, load, long, name, other, ring,
+                          row, same, tag, text_after, title, told)
 
 ALL_CALLS = (
     load(FULL_TEXT), told(), add(2027, 2, 28, 0), name(2, "Rest;\n"), long(2, 30), ring(2, 10), tag(2, "calm"),
-    other(2, "x-mood", "good"), told(), ring(7, 1), load("nothing"), told(),
+    other(2, "x-mood", "good"), told(), ring(7, 1), load("nothing"), told(), date(2), find("calm"), same(FULL_TEXT),
+    cut("x-place:in the kitchen, upstairs"), join("a\n b\n"), title("Away"), drop(0), drop(2), date(1), find("calm"),
+    find("home"), same("nothing"), cut("\n"), title("\t"), told(),
+)
+# Every way in which a call is refused when FULL_TEXT is loaded.
+REFUSED = (
+    load("nothing"), load(FULL_TEXT[:-1]), add(2026, 2, 29, 0), add(2026, 2, 28, 1440), name(2, "a"), name(0, "a" * 41),
+    name(0, "\t"), long(2, 1), long(0, 10000), ring(2, 1), ring(0, 10000), tag(2, "a"), tag(0, ""), tag(0, "A"),
+    other(2, "x-a", ""), other(0, "a", ""), other(0, "x-a", "\n"), other(0, "x-a", "v" * 61), drop(2), date(2),
+    same("nothing"), same(FULL_TEXT[:-1]), cut("\n"), title("a" * 41), title("\t"),
 )
 
 
@@ -37,6 +47,23 @@ class Layout(unittest.TestCase):
         text = row("begin:date\nname:A\nat:2000-01-01 00:00\nlong:7\nring:8\ntag:a\nx-a:B\nend:date\n")
         self.assertEqual(answers(calls), [1, 0, 1, 0, 1, 0, 1, 0, 1, 1, 1, 1, 1, 1, len(text) + 1, len(text)] + text)
 
+    def test_the_later_calls_by_their_numbers(self):
+        calls = [14, 1, 65, 2, 2000, 1, 2, 3, 6, 0, 1, 97, 7, 0, 3, 120, 45, 97, 0, 9, 0, 10, 1, 97, 11, 0, 12, 1, 66,
+                 13, 3, 67, 10, 32, 8, 0, 14, 0, 11, 0]
+        self.assertEqual(answers(calls), [
+            1, 0, 1, 0, 1, 1, 1, 1, 14, 1, 3, 0, 0, 0, 1, 1, 97, 1, 3, 120, 45, 97, 0, 2, 1, 0, 1, 0, 2, 1, 66, 2, 1, 67, 1, 0,
+            1, 1, 1, 1])
+
+    def test_later_rows_without_numbers(self):
+        self.assertEqual(answers([10, 0, 11, 0, 12, 0, 13, 0, 14, 0]), [1, 0, 1, 1, 1, 0, 1, 0, 1, 0])
+
+    def test_any_call_may_be_the_first(self):
+        for call, expected in ((load(""), [0]), (told(), [0]), (add(), [0]), (name(0, ""), [-3]), (long(0, 0), [-3]),
+                               (ring(0, 0), [-3]), (tag(0, ""), [-3]), (other(0, "", ""), [-3]), (drop(0), [-3]),
+                               (date(0), [-3]), (find(""), [0]), (same(""), [1]), (cut(""), [0]), (join(""), [0]),
+                               (title(""), [0])):
+            self.assertEqual(ask(call), [expected])
+
     def test_numbers_that_look_like_calls_within_rows(self):
         self.assertEqual(ask(add(), name(0, [10, 32, 33]), told())[1], [0])
         self.assertEqual(ask(add(), other(0, "x-a", [0, 1, 2, 3, 4, 5, 6, 7]), told())[1], [1])
@@ -46,6 +73,10 @@ class Layout(unittest.TestCase):
 
     def test_the_longest_rows(self):
         self.assertEqual(ask(*[load([97] * 700)] * 60), [[-101]] * 60)
+        self.assertEqual(ask(*[same([97] * 700)] * 60), [[-101]] * 60)
+        self.assertEqual(ask(*[join([97] * 700)] * 60), [[700] + [97] * 700] * 60)
+        self.assertEqual({tuple(part[:1]) for part in ask(*[cut([97] * 700)] * 60)}, {(760,)})
+        self.assertEqual(ask(*[find([97] * 700), title([97] * 700)] * 30), [[0], [-1]] * 30)
 
     def test_answers_are_whole_numbers_in_a_list(self):
         answered = answers(sum(ALL_CALLS, []))
@@ -86,6 +117,13 @@ class TogetherOnOneCalendar(unittest.TestCase):
         self.assertEqual(parts[2:8], [[2], [0], [0], [1], [1], [1]])
         self.assertEqual(parts[9:11], [[-3], [-101]])
         self.assertEqual(parts[8], parts[11])
+        self.assertEqual(parts[13:15], [[2, 0, 2], [0]])
+        self.assertEqual(parts[16:20], [[3, 97, 98, 10], [7], [2], [-3]])
+        self.assertEqual(parts[20], parts[12])
+        self.assertEqual(parts[21:26], [[1, 1], [0], [-101], [-1], [-1]])
+        self.assertEqual(bytes(parts[26][1:]).decode(), (
+            "title:Away\nbegin:date\nat:2030-01-01 00:00\nend:date\n"
+            "begin:date\nname:Rest\\;\\n\nat:2027-02-28 00:00\nlong:30\nring:10\ntag:calm\nx-mood:good\nend:date\n"))
         self.assertEqual(bytes(parts[8][1:]).decode(), FULL_TEXT + (
             "begin:date\nname:Rest\\;\\n\nat:2027-02-28 00:00\nlong:30\nring:10\ntag:calm\nx-mood:good\nend:date\n"))
 
@@ -102,6 +140,26 @@ class TogetherOnOneCalendar(unittest.TestCase):
             "begin:date\nat:2026-11-16 09:30\nring:7\nring:60\ntag:calm,late\nx-place:kitchen\nx-cups:2\nx-cups:3\n"
             "end:date\n"
             "begin:date\nat:2030-01-01 00:00\nring:0\nend:date\n"))
+
+    def test_sixty_calls_of_all_kinds(self):
+        parts = ask(*(ALL_CALLS * 3)[:60])
+        self.assertEqual(parts[:27], parts[27:54])
+        self.assertEqual(parts[54:], parts[:6])
+
+
+class Refusals(CalendarCase):
+    def test_a_refusal_is_a_number_below_0_alone_and_nothing_changes(self):
+        for call in REFUSED:
+            with self.subTest(call=call):
+                answer = last(load(FULL_TEXT), call)
+                self.assertEqual(len(answer), 1)
+                self.check_refused([load(FULL_TEXT)], call, answer[0])
+                self.assertLess(answer[0], 0)
+                self.assertEqual(ask(load(FULL_TEXT), call, same(FULL_TEXT)), [[2], answer, [1]])
+
+    def test_all_of_them_one_behind_another(self):
+        alone = [last(load(FULL_TEXT), call) for call in REFUSED]
+        self.assertEqual(ask(load(FULL_TEXT), *REFUSED, same(FULL_TEXT)), [[2]] + alone + [[1]])
 
 
 if __name__ == "__main__":
